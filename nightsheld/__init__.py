@@ -1,0 +1,1 @@
+"""Nightsheld: a guest house, its nights, rooms, keys and bills."""

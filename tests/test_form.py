@@ -1,0 +1,127 @@
+"""The form of the package's files: the rules of LANGUAGE.md that can be counted line by line or name by name."""
+
+import ast
+import builtins
+import pathlib
+import re
+import unittest
+import warnings
+
+FOLDER = pathlib.Path(__file__).resolve().parent.parent / "nightsheld"
+FILES = sorted(FOLDER.rglob("*.py"))
+
+ALLOWED_BUILTINS = set(
+    "len range enumerate zip min max sum abs sorted reversed int str bool bytes list tuple dict set frozenset "
+    "isinstance ord repr any all divmod Exception ValueError TypeError KeyError IndexError LookupError "
+    "ZeroDivisionError ArithmeticError OverflowError RuntimeError NotImplementedError AttributeError StopIteration "
+    "NotImplemented super property staticmethod classmethod".split()
+)
+
+BARRED_WORDS = (
+    "type typing typing_extensions enum Enum IntEnum StrEnum Flag IntFlag Generic Protocol ABC ABCMeta namedtuple "
+    "NamedTuple TypedDict TYPE_CHECKING abstractmethod"
+).split()
+
+ALLOWED_METHODS = re.compile(
+    "__(init|eq|repr|str|len|enter|exit|call|iter|lt|le|gt|ge|ne|[ri]?(add|sub|mul|floordiv|mod|and|or|xor|lshift|rshift)"
+    "|i?pow|neg|pos|invert|abs|bool|contains|getitem|setitem)__"
+)
+
+
+def trees():
+    for path in FILES:
+        yield path.name, ast.parse(path.read_text(encoding="utf-8"))
+
+
+def nodes(*kinds):
+    for name, tree in trees():
+        for node in ast.walk(tree):
+            if isinstance(node, kinds):
+                yield name, node
+
+
+def bound_names(node):
+    """The names that a node gives to something."""
+    if isinstance(node, (ast.FunctionDef, ast.ClassDef)):
+        return [node.name]
+    if isinstance(node, ast.arg):
+        return [node.arg]
+    if isinstance(node, ast.Attribute):
+        return [node.attr]
+    if isinstance(node, ast.alias):
+        return [node.asname or node.name]
+    return [node.id]
+
+
+class TestForm(unittest.TestCase):
+    def test_the_folder_has_python_files_with_plain_names_alone(self):
+        self.assertTrue((FOLDER / "__init__.py").is_file())
+        found = [path for path in FOLDER.rglob("*") if path.is_file() and path.parent.name != "__pycache__"]
+        for path in found:
+            self.assertRegex(path.name, r"\A([a-z][a-z0-9_]*|__init__|__main__)\.py\Z")
+
+    def test_signs_lines_and_files(self):
+        for path in FILES:
+            text = path.read_text(encoding="utf-8")
+            self.assertRegex(text, r"\A[\n -~]*\Z", path.name)
+            self.assertLessEqual(len(text.splitlines()), 400, path.name)
+            self.assertLessEqual(max(len(line) for line in text.splitlines()), 120, path.name)
+
+    def test_functions_have_at_most_forty_lines(self):
+        for name, node in nodes(ast.FunctionDef):
+            self.assertLessEqual(node.end_lineno - node.lineno + 1, 40, (name, node.name))
+
+    def test_imports_name_the_file_that_defines_the_name(self):
+        defined = {}
+        for path in FILES:
+            body = ast.parse(path.read_text(encoding="utf-8")).body
+            names = [node.name for node in body if isinstance(node, (ast.FunctionDef, ast.ClassDef))]
+            places = [place for node in body if isinstance(node, ast.Assign) for place in node.targets]
+            names += [place.id for place in places if isinstance(place, ast.Name)]
+            defined["nightsheld." + path.stem] = names
+        defined["__future__"] = ["annotations"]
+        for name, node in nodes(ast.ImportFrom):
+            self.assertEqual(node.level, 0, name)
+            for alias in node.names:
+                self.assertIn(alias.name, defined.get(node.module, []), (name, node.module))
+        self.assertEqual([name for name, node in nodes(ast.Import)], [])
+
+    def test_names_are_plain(self):
+        kinds = (ast.FunctionDef, ast.ClassDef, ast.arg, ast.Name, ast.Attribute, ast.alias)
+        for name, node in nodes(*kinds):
+            for word in bound_names(node):
+                if not ALLOWED_METHODS.fullmatch(word):
+                    self.assertRegex(word, r"\A[A-Za-z][A-Za-z0-9_]*\Z", name)
+
+    def test_no_other_builtin_is_used(self):
+        for name, node in nodes(ast.Name):
+            if hasattr(builtins, node.id):
+                self.assertIn(node.id, ALLOWED_BUILTINS, name)
+
+    def test_barred_words_stand_nowhere(self):
+        whole = re.compile(r"\b(" + "|".join(BARRED_WORDS) + r")\b")
+        for path in FILES:
+            text = path.read_text(encoding="utf-8")
+            self.assertNotRegex(text, whole, path.name)
+            self.assertNotRegex(text, "dataclass|overload|contextmanager", path.name)
+
+    def test_no_floats_no_slash_and_no_percent_sign_in_a_string(self):
+        for name, node in nodes(ast.Constant):
+            self.assertNotIsInstance(node.value, (float, complex), name)
+            if isinstance(node.value, str):
+                self.assertNotIn("%", node.value, name)
+        self.assertEqual([name for name, node in nodes(ast.Div)], [])
+
+    def test_no_statement_beyond_the_subset(self):
+        barred = (ast.Global, ast.AsyncFunctionDef, ast.AsyncFor, ast.AsyncWith, ast.Await)
+        self.assertEqual([name for name, node in nodes(*barred)], [])
+
+    def test_python_gives_no_warning(self):
+        for path in FILES:
+            with warnings.catch_warnings():
+                warnings.simplefilter("error")
+                compile(path.read_text(encoding="utf-8"), str(path), "exec")
+
+
+if __name__ == "__main__":
+    unittest.main()
