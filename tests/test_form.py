@@ -23,7 +23,8 @@ BARRED_WORDS = (
 ).split()
 
 ALLOWED_METHODS = re.compile(
-    "__(init|eq|repr|str|len|enter|exit|call|iter|lt|le|gt|ge|ne|[ri]?(add|sub|mul|floordiv|mod|and|or|xor|lshift|rshift)"
+    "__(init|eq|repr|str|len|enter|exit|call|iter|lt|le|gt|ge|ne"
+    "|[ri]?(add|sub|mul|floordiv|mod|and|or|xor|lshift|rshift)"
     "|i?pow|neg|pos|invert|abs|bool|contains|getitem|setitem)__"
 )
 
@@ -97,6 +98,45 @@ class TestForm(unittest.TestCase):
         for name, node in nodes(ast.Name):
             if hasattr(builtins, node.id):
                 self.assertIn(node.id, ALLOWED_BUILTINS, name)
+
+    def test_nothing_has_the_name_of_a_builtin_a_class_or_an_import(self):
+        for name, tree in trees():
+            taken = {alias.name for node in tree.body if isinstance(node, ast.ImportFrom) for alias in node.names}
+            taken |= {node.name for node in tree.body if isinstance(node, ast.ClassDef)}
+            for node in ast.walk(tree):
+                if isinstance(node, ast.arg):
+                    word = node.arg
+                elif isinstance(node, ast.FunctionDef) and node in tree.body:
+                    word = node.name
+                elif isinstance(node, ast.Name) and isinstance(node.ctx, ast.Store):
+                    word = node.id
+                else:
+                    continue
+                self.assertNotIn(word, taken, name)
+                self.assertFalse(hasattr(builtins, word), (name, word))
+
+    def test_module_level_names_are_bound_once(self):
+        for name, tree in trees():
+            words = []
+            for node in tree.body:
+                if isinstance(node, ast.ImportFrom):
+                    words += [word for alias in node.names for word in bound_names(alias)]
+                elif isinstance(node, ast.Assign):
+                    words += [word for place in node.targets for word in bound_names(place)]
+                elif isinstance(node, (ast.FunctionDef, ast.ClassDef)):
+                    words += [node.name]
+            self.assertEqual(len(words), len(set(words)), name)
+
+    def test_no_generator_expressions_and_no_sort(self):
+        self.assertEqual([name for name, node in nodes(ast.GeneratorExp)], [])
+        self.assertEqual([name for name, node in nodes(ast.Attribute) if node.attr == "sort"], [])
+
+    def test_is_stands_beside_none_and_truths_alone(self):
+        for name, node in nodes(ast.Compare):
+            for sign, thing in zip(node.ops, node.comparators):
+                if isinstance(sign, (ast.Is, ast.IsNot)):
+                    self.assertIsInstance(thing, ast.Constant, name)
+                    self.assertTrue(thing.value is None or isinstance(thing.value, bool), name)
 
     def test_barred_words_stand_nowhere(self):
         whole = re.compile(r"\b(" + "|".join(BARRED_WORDS) + r")\b")

@@ -5,21 +5,10 @@ import unittest
 
 from nightsheld.errors import NoNight, NoStays
 from nightsheld.houses import are_stays, is_house, is_stay, sleeping
-from tests.things import FAR_NUMBERS, Kept, NO_TUPLES, NO_WHOLES, nest, put
+from tests.asking import AskAnything, Asking
+from tests.things import FAR_NUMBERS, Kept, NO_STAYS, NO_TUPLES, NO_WHOLES, nest, no_numbers, put
 
 EIGHT = ((1, 0, 1), (3, 20, 8), (2, 5, 3), (2, 5, 3), (1, 4, 1), (3, 0, 8), (1, 8, 2), (2, 20, 1))
-
-
-class AskAnything(unittest.TestCase):
-    """Ask whether a thing is one, by place and by name, and again."""
-
-    def tell(self, asked, thing, due):
-        kept = Kept(thing)
-        with self.subTest(asked=asked.__name__, thing=repr(thing)[:200]):
-            self.assertIs(asked(thing), due)
-            self.assertIs(asked(thing=thing), due)
-            self.assertIs(asked(thing), due)
-            self.assertTrue(kept.holds())
 
 
 class TestIsHouse(AskAnything):
@@ -130,25 +119,7 @@ class TestAreStays(AskAnything):
             self.tell(are_stays, thing, False)
 
 
-class TestSleeping(unittest.TestCase):
-    def refused(self, stays, night):
-        """The very class of the error, the same by place and by name."""
-        kept = Kept((stays, night))
-        ways = (
-            lambda: sleeping(stays, night),
-            lambda: sleeping(stays, night=night),
-            lambda: sleeping(stays=stays, night=night),
-            lambda: sleeping(night=night, stays=stays),
-        )
-        classes = []
-        for way in ways:
-            with self.assertRaises(ValueError) as caught:
-                way()
-            classes.append(type(caught.exception))
-        self.assertTrue(kept.holds())
-        self.assertEqual(classes, classes[:1] * 4)
-        return classes[0]
-
+class TestSleeping(Asking):
     def test_each_night_of_none_to_eight_stays(self):
         for many in range(9):
             stays = EIGHT[:many]
@@ -190,9 +161,7 @@ class TestSleeping(unittest.TestCase):
             self.assertEqual([type(number) for number in told], [int] * len(told))
 
     def test_by_name_in_whatever_order(self):
-        self.assertEqual(sleeping(stays=EIGHT, night=6), (2, 3, 5))
-        self.assertEqual(sleeping(night=6, stays=EIGHT), (2, 3, 5))
-        self.assertEqual(sleeping(EIGHT, night=6), (2, 3, 5))
+        self.assertEqual(self.answer(sleeping, stays=EIGHT, night=6), (2, 3, 5))
 
     def test_asked_again_it_is_the_same_and_nothing_is_changed(self):
         kept = Kept(EIGHT)
@@ -201,32 +170,15 @@ class TestSleeping(unittest.TestCase):
         self.assertEqual(told, again[::-1])
         self.assertTrue(kept.holds())
 
-    def test_what_is_no_stays(self):
-        wrong = (
-            EIGHT + ((1, 0, 1),), ((1, 0, 1),) * 9, ((0, 0, 1),), ((1, 21, 1),), ((1, 0, 9),), ((1, 0, 0),),
-            ((True, 0, 1),), ((1, False, 1),), ((1, 0, True),), ([1, 0, 1],), ((1, 0),), ((1, 0, 1, 1),), (1, 0, 1),
-        )
-        for stays in (*wrong, *NO_TUPLES):
-            for night in (0, 7, 40):
-                with self.subTest(stays=repr(stays)[:200], night=night):
-                    self.assertIs(self.refused(stays, night), NoStays)
-
-    def test_what_is_no_night(self):
-        for night in (-1, 41, -40, 42, *FAR_NUMBERS, *NO_WHOLES):
-            for stays in ((), ((1, 0, 1),), EIGHT):
-                with self.subTest(stays=stays, night=repr(night)[:200]):
-                    self.assertIs(self.refused(stays, night), NoNight)
-
-    def test_both_at_once_is_no_stays(self):
-        for stays in (None, [], [(1, 0, 1)], ((1, 0, 0),), ((1, 0, 1),) * 9):
-            for night in (-1, 41, True, None, "1", [1]):
-                with self.subTest(stays=stays, night=night):
-                    self.assertIs(self.refused(stays, night), NoStays)
+    def test_refusals(self):
+        rights = (((), 0), (((1, 0, 1),), 7), (EIGHT, 40))
+        wrongs = {"stays": (NoStays, (EIGHT + ((1, 0, 1),), *NO_STAYS)), "night": (NoNight, no_numbers(0, 40))}
+        self.check_refused(sleeping, rights, wrongs)
 
     def test_a_refusal_leaves_no_trace(self):
         told = sleeping(EIGHT, 6)
-        self.refused(EIGHT, 41)
-        self.refused(None, 6)
+        self.refusal(sleeping, stays=EIGHT, night=41)
+        self.refusal(sleeping, stays=None, night=6)
         self.assertEqual(sleeping(EIGHT, 6), told)
 
 

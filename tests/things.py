@@ -22,7 +22,8 @@ NO_WHOLES = (
 NO_TUPLES = (
     True, False, None, 0, 1, 2, 3, -1, *FAR_NUMBERS, *TEXTS,
     [], [1], [1, 2], [1, 2, 3], [1, 0, 1], [(1, 0, 1)], [[1, 0, 1]], [(1, 0, 1), (2, 3, 4)],
-    {}, {0: 1}, {1: 2, 2: 3}, {1: 0, 2: 0, 3: 0}, {0: 1, 1: 0, 2: 1}, {(1, 0, 1): 0}, {"kind": 1, "first": 0, "nights": 1},
+    {}, {0: 1}, {1: 2, 2: 3}, {1: 0, 2: 0, 3: 0}, {0: 1, 1: 0, 2: 1}, {(1, 0, 1): 0},
+    {"kind": 1, "first": 0, "nights": 1},
 )
 
 
@@ -41,3 +42,41 @@ class Kept:
 
     def holds(self):
         return self.thing == self.before and repr(self.thing) == self.shown
+
+
+def no_numbers(least, most):
+    """What is no whole number from least to most."""
+    return (least - 1, most + 1, least - 2, most + 2, *FAR_NUMBERS, *NO_WHOLES)
+
+
+NO_HOUSES = (
+    (), (1,) * 6, (3,) * 100, (0,), (4,), (-1,), (1, 0), (2, 3, 4), (10**11,), (True,), (1, True), (2, False),
+    (1, None), ("1",), ([1],), ((1,),), (1, {}), ((1, 0, 1),), nest(8), *NO_TUPLES,
+)
+
+NO_STAYS = (
+    ((1, 0, 1),) * 9, ((3, 20, 8),) * 100, ((0, 0, 1),), ((4, 0, 1),), ((1, -1, 1),), ((1, 21, 1),), ((1, 0, 0),),
+    ((1, 0, 9),), ((True, 0, 1),), ((1, False, 1),), ((1, 0, True),), ((1, 0, None),), ((1, "0", 1),), ([1, 0, 1],),
+    ((1, 0, 1), [1, 0, 1]), ((1, 0),), ((1, 0, 1, 1),), ((1, 0, 1), (1, 0)), ((1, 0, 1), None), (1, 0, 1), ((),),
+    (((1, 0, 1),),), ((1, 10**11, 1),), nest(8), *NO_TUPLES,
+)
+
+# Eight stays that all sleep on night 20.
+ALL_MEET = ((1, 20, 8), (2, 20, 7), (3, 19, 8), (1, 15, 8), (2, 18, 5), (3, 20, 1), (1, 17, 4), (2, 13, 8))
+
+# Stays that fit by nights in a house of one room of kind 1 and one of kind 2, but have no plan.
+MOVE_HOUSE = (1, 2)
+MOVE_STAYS = ((1, 0, 2), (2, 0, 1), (1, 1, 2), (2, 2, 1))
+
+
+def some_cases(random, many, most_rooms, most_stays, last_first, most_nights):
+    """Pairs of a house and stays, up to so great ones."""
+    cases = []
+    for step in range(many):
+        house = [random.randint(1, 3) for room in range(random.randint(1, most_rooms))]
+        stays = [
+            (random.choice((1, 1, 2, 3)), random.randint(0, last_first), random.randint(1, most_nights))
+            for stay in range(random.randint(0, most_stays))
+        ]
+        cases.append((tuple(house), tuple(stays)))
+    return cases
