@@ -1,6 +1,6 @@
 """The house and its stays: what they are, where they may sleep, and who sleeps on a night."""
 
-from nightsheld.errors import NoHouse, NoKind, NoNight, NoNights, NoStays
+from nightsheld.errors import NoHouse, NoKind, NoNight, NoNights, NoStay, NoStays
 from nightsheld.wholes import is_within
 
 MOST_KIND = 3
@@ -52,6 +52,12 @@ def need_house(house):
     """Refuse what is no house."""
     if not is_house(house):
         raise NoHouse()
+
+
+def need_stay(stay):
+    """Refuse what is no stay."""
+    if not is_stay(stay):
+        raise NoStay()
 
 
 def need_stays(stays):
