@@ -45,7 +45,7 @@ class Asking(unittest.TestCase):
         """Refusals of each argument alone, of each two, and of all.
 
         rights has tuples of right arguments, in the interface's order; wrongs has, by each argument's name in that
-        order, the class that is due and things that are refused.
+        order, the class that is due and things that are refused: none where it may be anything.
         """
         names = list(wrongs)
         for right in rights:
@@ -60,8 +60,9 @@ class Asking(unittest.TestCase):
 
     def check_first(self, asked, good, wrongs, names):
         """The first of these names is wrong, and with it each one behind it, and all of them: its class is due."""
-        first, *behind = names
+        first, *others = names
         due, things = wrongs[first]
+        behind = [name for name in others if wrongs[name][1]]
         every = {name: wrongs[name][1][0] for name in behind}
         for at, thing in enumerate(things):
             alone = {name: wrongs[name][1][at % len(wrongs[name][1])] for name in behind}

@@ -9,7 +9,7 @@ import unittest
 from nightsheld.bills import bill, nightly
 from nightsheld.errors import NoPrices, NoRule, NoStay
 from tests.asking import Asking
-from tests.things import NO_TUPLES, NO_WHOLES, nest, no_numbers, put
+from tests.things import NO_STAY, NO_TUPLES, NO_WHOLES, nest, no_numbers, put
 
 PRICES = ((10, 11, 12, 13, 14, 15, 16), (20, 21, 22, 23, 24, 25, 26), (30, 31, 32, 33, 34, 35, 36))
 ENDS = ((0,) * 7, (1000,) * 7, (0, 1000, 0, 1000, 0, 1000, 1))
@@ -32,12 +32,6 @@ NO_RULES = (
     (), (0,), (0, (0, 1), 0), [0, (0, 1)], (0, [0, 1]), (0, 0, 1), ((0, (0, 1)),), (1, (0, 1)), (-2, (0, 1)), nest(8),
     *[(thing, (0, 1)) for thing in no_numbers(0, 8)], *[(0, thing) for thing in NO_TAX],
     *[(8, thing) for thing in NO_TAX], *NO_TUPLES,
-)
-
-NO_STAY = (
-    (), (1,), (1, 0), (1, 0, 1, 1), ((1, 0, 1),), [1, 0, 1], nest(8), *NO_TUPLES,
-    *[(thing, 0, 1) for thing in no_numbers(1, 3)], *[(1, thing, 1) for thing in no_numbers(0, 20)],
-    *[(1, 0, thing) for thing in no_numbers(1, 8)],
 )
 
 

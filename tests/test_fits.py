@@ -8,38 +8,7 @@ from nightsheld.errors import NoHouse, NoKind, NoNight, NoNights, NoStays
 from nightsheld.fits import begins, fits, left
 from tests.asking import Asking
 from tests.things import ALL_MEET, MOVE_HOUSE, MOVE_STAYS, NO_HOUSES, NO_STAYS, no_numbers, some_cases
-
-
-def asleep(stays, night):
-    return [kind for kind, first, nights in stays if night in range(first, first + nights)]
-
-
-def can_sleep(house, kinds):
-    """Whether stays of these kinds can have unlike rooms: by trying them all."""
-    for rooms in itertools.permutations(house, len(kinds)):
-        if all(room >= kind for room, kind in zip(rooms, kinds)):
-            return True
-    return False
-
-
-def fits_due(house, stays):
-    for night in range(41):
-        kinds = asleep(stays, night)
-        if not can_sleep(house, kinds):
-            for kind in (1, 2, 3):
-                many = sum(1 for each in kinds if each >= kind)
-                rooms = sum(1 for each in house if each >= kind)
-                if many > rooms:
-                    return "over", night, kind, many, rooms
-    return ("fits",)
-
-
-def left_due(house, stays, night, kind):
-    kinds = asleep(stays, night)
-    more = 0
-    while can_sleep(house, kinds + [kind] * (more + 1)):
-        more += 1
-    return more
+from tests.trying import fits_due, left_due
 
 
 def begins_due(house, stays, kind, nights):

@@ -12,24 +12,10 @@ from tests.things import (
     ALL_MEET, FAR_NUMBERS, MOVE_HOUSE, MOVE_STAYS, NO_HOUSES, NO_STAYS, NO_TUPLES, NO_WHOLES, nest, no_numbers, put,
     some_cases,
 )
+from tests.trying import all_plans, meet
 
 FIVE_MEET = ((1, 0, 8), (1, 1, 8), (1, 2, 8), (1, 3, 8), (1, 4, 8), (1, 12, 8), (1, 20, 1), (1, 20, 8))
 NONE_MEET = tuple((1, 2 * at, 2) for at in range(8))
-
-
-def meet(one, other):
-    return one[1] < other[1] + other[2] and other[1] < one[1] + one[2]
-
-
-def all_plans(house, stays):
-    """Each plan, the least first: by trying them all."""
-    found = []
-    for rooms in itertools.product(range(len(house)), repeat=len(stays)):
-        if all(house[room] >= stay[0] for room, stay in zip(rooms, stays)):
-            pairs = itertools.combinations(range(len(stays)), 2)
-            if not any(rooms[one] == rooms[other] and meet(stays[one], stays[other]) for one, other in pairs):
-                found.append(rooms)
-    return found
 
 
 def all_lots(house, stays):

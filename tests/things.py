@@ -46,12 +46,19 @@ class Kept:
 
 def no_numbers(least, most):
     """What is no whole number from least to most."""
-    return (least - 1, most + 1, least - 2, most + 2, *FAR_NUMBERS, *NO_WHOLES)
+    far = [number for number in FAR_NUMBERS if not least <= number <= most]
+    return (least - 1, most + 1, least - 2, most + 2, *far, *NO_WHOLES)
 
 
 NO_HOUSES = (
     (), (1,) * 6, (3,) * 100, (0,), (4,), (-1,), (1, 0), (2, 3, 4), (10**11,), (True,), (1, True), (2, False),
     (1, None), ("1",), ([1],), ((1,),), (1, {}), ((1, 0, 1),), nest(8), *NO_TUPLES,
+)
+
+NO_STAY = (
+    (), (1,), (1, 0), (1, 0, 1, 1), ((1, 0, 1),), [1, 0, 1], nest(8), *NO_TUPLES,
+    *[(thing, 0, 1) for thing in no_numbers(1, 3)], *[(1, thing, 1) for thing in no_numbers(0, 20)],
+    *[(1, 0, thing) for thing in no_numbers(1, 8)],
 )
 
 NO_STAYS = (
