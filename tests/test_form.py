@@ -28,6 +28,16 @@ ALLOWED_METHODS = re.compile(
     "|i?pow|neg|pos|invert|abs|bool|contains|getitem|setitem)__"
 )
 
+# Of these each call is iterated where it stands, by a loop or by one of the others.
+ITERATED = {"range", "enumerate", "zip", "reversed", "items", "keys", "values"}
+ITERATING = {"list", "tuple", "dict", "sorted", "sum", "any", "all", "enumerate", "zip", "bytes", "min", "max"}
+
+ALLOWED_CALLS = set(
+    "append clear copy count endswith extend find get index insert isalnum isalpha isdigit islower isspace isupper "
+    "items join keys ljust lower lstrip partition pop remove replace reverse rfind rjust rpartition rsplit rstrip "
+    "setdefault split splitlines startswith strip update upper values zfill bit_length".split()
+)
+
 
 def trees():
     for path in FILES:
@@ -52,6 +62,28 @@ def bound_names(node):
     if isinstance(node, ast.alias):
         return [node.asname or node.name]
     return [node.id]
+
+
+def called(node):
+    """The name that a call calls, None of what is no call."""
+    if not isinstance(node, ast.Call):
+        return None
+    return node.func.attr if isinstance(node.func, ast.Attribute) else getattr(node.func, "id", None)
+
+
+def places():
+    """Each node of each file with the node around it."""
+    for name, tree in trees():
+        for around in ast.walk(tree):
+            for node in ast.iter_child_nodes(around):
+                yield name, around, node
+
+
+def is_asked_of(around):
+    """Whether it asks by `in`, == or != alone."""
+    return isinstance(around, ast.Compare) and all(
+        isinstance(sign, (ast.In, ast.NotIn, ast.Eq, ast.NotEq)) for sign in around.ops
+    )
 
 
 class TestForm(unittest.TestCase):
@@ -137,6 +169,39 @@ class TestForm(unittest.TestCase):
                 if isinstance(sign, (ast.Is, ast.IsNot)):
                     self.assertIsInstance(thing, ast.Constant, name)
                     self.assertTrue(thing.value is None or isinstance(thing.value, bool), name)
+
+    def test_what_is_iterated_is_iterated_at_once(self):
+        for name, around, node in places():
+            if called(node) in ITERATED:
+                loop = isinstance(around, (ast.For, ast.comprehension)) and around.iter is node
+                first = called(around) in ITERATING and around.args[0] is node
+                inner = called(around) == "zip" and node in around.args
+                self.assertTrue(loop or first or inner, (name, node.lineno))
+
+    def test_sets_are_asked_sorted_or_counted_where_they_are_written(self):
+        for name, around, node in places():
+            if isinstance(node, (ast.Set, ast.SetComp)) or called(node) == "set":
+                counted = called(around) in ("sorted", "len")
+                self.assertTrue(counted or is_asked_of(around), (name, node.lineno))
+        self.assertEqual([name for name, node in nodes(ast.Call) if called(node) == "frozenset"], [])
+
+    def test_methods_and_attributes_have_names_of_their_own(self):
+        methods = {node.name for name, owner in nodes(ast.ClassDef) for node in owner.body
+                   if isinstance(node, ast.FunctionDef)}
+        stored = {node.attr for name, node in nodes(ast.Attribute) if isinstance(node.ctx, ast.Store)}
+        self.assertEqual(methods & stored, set())
+        for name, around, node in places():
+            if isinstance(node, ast.Attribute):
+                is_called = isinstance(around, ast.Call) and around.func is node
+                self.assertIn(node.attr, methods | ALLOWED_CALLS if is_called else stored, (name, node.lineno))
+
+    def test_a_length_is_a_length_or_a_number(self):
+        for name, node in nodes(ast.FunctionDef):
+            if node.name == "__len__":
+                for told in ast.walk(node):
+                    if isinstance(told, ast.Return):
+                        number = isinstance(told.value, ast.Constant) and type(told.value.value) is int
+                        self.assertTrue(called(told.value) == "len" or number, name)
 
     def test_barred_words_stand_nowhere(self):
         whole = re.compile(r"\b(" + "|".join(BARRED_WORDS) + r")\b")
